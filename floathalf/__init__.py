@@ -1,0 +1,1 @@
+"""The floating-point half of a RISC-V processor: see floathalf.processor."""
