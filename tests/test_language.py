@@ -32,7 +32,7 @@ STATEMENTS = (ast.Assign, ast.AugAssign, ast.If, ast.While, ast.For, ast.Return,
               ast.Raise, ast.Try, ast.Expr, ast.FunctionDef, ast.ClassDef, ast.ImportFrom)
 
 NEVER_NODES = (ast.Set, ast.SetComp, ast.DictComp, ast.GeneratorExp, ast.NamedExpr, ast.Starred, ast.Await, ast.Yield,
-               ast.YieldFrom, ast.Div, ast.MatMult, ast.AnnAssign, ast.Is, ast.IsNot, ast.JoinedStr, ast.Lambda)
+               ast.YieldFrom, ast.Div, ast.MatMult)
 
 
 def plain_value(node, defined):
@@ -43,8 +43,11 @@ def plain_value(node, defined):
         return plain_value(node.operand, defined)
     if isinstance(node, ast.Name):
         return node.id in defined
+    if isinstance(node, ast.Dict):
+        return all(plain_value(part, defined) and not isinstance(part, (ast.List, ast.Dict))
+                   for part in node.keys + node.values)
     if isinstance(node, (ast.Tuple, ast.List)):
-        return all(plain_value(part, defined) and not isinstance(part, ast.List) for part in node.elts)
+        return all(plain_value(part, defined) and not isinstance(part, (ast.List, ast.Dict)) for part in node.elts)
     return False
 
 
@@ -131,7 +134,12 @@ class Language(unittest.TestCase):
                 self.assertLessEqual(node.end_lineno - node.lineno + 1, 40, where)
                 self.assertFalse(node.decorator_list or node.args.vararg or node.args.kwarg, where)
                 self.assertFalse(node.args.kwonlyargs or node.args.posonlyargs, where)
-                self.assertIsNotNone(ast.get_docstring(node), where)
+
+    def test_is_stands_beside_none_true_and_false_alone(self):
+        for where, node in self.nodes():
+            if isinstance(node, ast.Compare) and isinstance(node.ops[0], (ast.Is, ast.IsNot)):
+                self.assertIsInstance(node.comparators[0], ast.Constant, where)
+                self.assertIn(repr(node.comparators[0].value), ("None", "True", "False"), where)
 
     def test_names(self):
         for path, tree in self.trees.items():
