@@ -5,6 +5,7 @@ from floathalf.flags import NV, NX, signaling_flags
 from floathalf.formats import canonical_nan, finite_parts, infinity, is_infinite, is_nan
 from floathalf.formats import is_zero, sign_of, zero
 from floathalf.rounding import cut, is_cut_exactly, rounded
+from floathalf.wholes import signed, wrapped
 
 
 def convert(source, goal, mode, a):
@@ -61,16 +62,11 @@ def greatest_of_sort(sort):
     return least_of_sort(sort) + (1 << bits_of_sort(sort)) - 1
 
 
-def told(number):
-    """A whole number as it is answered: modulo 2^64."""
-    return number % 2 ** 64
-
-
 def beyond_sort(sort, below):
     """The answer for what the sort has no number for."""
     if below:
-        return (told(least_of_sort(sort)), NV)
-    return (told(greatest_of_sort(sort)), NV)
+        return (wrapped(least_of_sort(sort)), NV)
+    return (wrapped(greatest_of_sort(sort)), NV)
 
 
 def to_whole(form, sort, mode, a):
@@ -84,15 +80,14 @@ def to_whole(form, sort, mode, a):
     number = -size if sign == 1 else size
     if number < least_of_sort(sort) or number > greatest_of_sort(sort):
         return beyond_sort(sort, number < 0)
-    return (told(number), 0 if is_cut_exactly(n, -k) else NX)
+    return (wrapped(number), 0 if is_cut_exactly(n, -k) else NX)
 
 
 def number_of_sort(sort, v):
     """The number of the sort that v's low bits are."""
-    number = v % (1 << bits_of_sort(sort))
-    if number > greatest_of_sort(sort):
-        return number - (1 << bits_of_sort(sort))
-    return number
+    if has_sign(sort):
+        return signed(v, bits_of_sort(sort))
+    return v % (1 << bits_of_sort(sort))
 
 
 def from_whole(form, sort, mode, v):

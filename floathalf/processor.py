@@ -2,6 +2,8 @@
 
 from floathalf.bitwise import class_of, compare
 from floathalf.conversions import convert, from_whole, to_whole
+from floathalf.machine import MEMORY_SIZE, Machine
+from floathalf.machine_calls import PROGRAM, READ, WRITE, answer_of_machine
 from floathalf.operations import operate
 
 OP = 0
@@ -9,15 +11,14 @@ COMPARE = 1
 CLASS_OF = 2
 CONVERT = 3
 WHOLE = 4
-NEW = 6
-PROGRAM = 7
-WRITE = 12
+FLOATING = 5
 
 # By the call's number: how many whole numbers stand behind it, a row's count among them.
 COUNTS = (6, 4, 2, 4, 4, 4, 0, 1, 1, 1, 2, 2, 2)
 
 # By the call's number: the greatest that its first numbers may be; those behind may be any.
-LIMITS = ((2, 15, 4), (2, 4), (2,), (2, 2, 4), (2, 7, 4), (2, 7, 4), ())
+# Of program, the first is how many words the row has.
+LIMITS = ((2, 15, 4), (2, 4), (2,), (2, 2, 4), (2, 7, 4), (2, 7, 4), (), (1024,), (1000,), (68,), (66,), (), ())
 
 
 def call_size(calls, at):
@@ -34,6 +35,8 @@ def is_within_limits(which, numbers):
     for limit, number in zip(LIMITS[which], numbers):
         if number > limit:
             return False
+    if which == READ or which == WRITE:
+        return numbers[0] + numbers[1] <= MEMORY_SIZE
     return True
 
 
@@ -52,23 +55,23 @@ def answer_of_numbers(which, numbers):
     return list(from_whole(numbers[0], numbers[1], numbers[2], numbers[3]))
 
 
-def answer_of_call(which, numbers):
+def answer_of_call(machine, which, numbers):
     """All that one call answers; a refusal is -1 alone."""
-    # The calls behind NEW are of the machine, which is not built yet: they are refused.
-    if which > NEW or not is_within_limits(which, numbers):
+    if not is_within_limits(which, numbers):
         return [-1]
-    if which == NEW:
-        return [0, 0]
-    return [0] + answer_of_numbers(which, numbers)
+    if which <= FLOATING:
+        return [0] + answer_of_numbers(which, numbers)
+    return [0] + answer_of_machine(machine, which, numbers)
 
 
 def answers(calls):
     """For each of the calls in order: how many numbers it answers, then these."""
+    machine = Machine()
     given = []
     at = 0
     while at < len(calls):
         size = call_size(calls, at)
-        answer = answer_of_call(calls[at], calls[at + 1:at + size])
+        answer = answer_of_call(machine, calls[at], calls[at + 1:at + size])
         given.append(len(answer))
         given.extend(answer)
         at = at + size

@@ -1,9 +1,11 @@
 """How the tests ask the program, and what the answers must be by exact arithmetic.
 
-The second part draws nothing from the program: it goes from the words of the document,
-with fractions, so that the two can be held against each other.
+The part of exact arithmetic draws nothing from the program: it goes from the words of the
+document, with fractions, so that the two can be held against each other.
 """
 
+import random
+import unittest
 from fractions import Fraction
 from math import isqrt
 
@@ -413,3 +415,224 @@ def differences(calls):
         if len(found) == 3:
             break
     return found
+
+
+# Operands.
+
+class Drawn:
+    """Operands, drawn anew but the same in each run of the tests."""
+
+    def __init__(self, seed):
+        self.draw = random.Random(seed)
+
+    def above(self, form):
+        """Now and then, bits above the format's width."""
+        room = 64 - WIDTH[form]
+        return self.draw.getrandbits(room) << WIDTH[form] if room and self.draw.random() < 0.3 else 0
+
+    def fraction(self, form):
+        """Fractions with long runs of equal bits come often: ties and carries come of them."""
+        places = FRACTION[form]
+        bits = self.draw.getrandbits(places)
+        choice = self.draw.randrange(4)
+        if choice == 0:
+            bits = bits >> self.draw.randrange(places + 1) << self.draw.randrange(places + 1)
+        if choice == 1:
+            bits = (1 << places) - 1 - (bits >> self.draw.randrange(places + 1))
+        return bits % (1 << places)
+
+    def exponent(self, form, near=None):
+        greatest = (1 << EXPONENT[form]) - 1
+        if near is not None and self.draw.random() < 0.7:
+            return min(greatest, max(0, near + self.draw.randint(-FRACTION[form] - 3, FRACTION[form] + 3)))
+        choice = self.draw.randrange(5)
+        if choice == 0:
+            return self.draw.randrange(4)
+        if choice == 1:
+            return greatest - self.draw.randrange(4)
+        return self.draw.randrange(greatest + 1)
+
+    def put(self, form, field):
+        sign = self.draw.getrandbits(1)
+        bits = (sign << EXPONENT[form] | field) << FRACTION[form] | self.fraction(form)
+        return bits | self.above(form)
+
+    def operand(self, form):
+        if self.draw.random() < 0.1:
+            return self.draw.choice(NAMED[form].specials()) | self.above(form)
+        return self.put(form, self.exponent(form))
+
+    def near(self, form, a):
+        field = a >> FRACTION[form] & (1 << EXPONENT[form]) - 1
+        return self.put(form, self.exponent(form, field))
+
+    def third(self, form, a, b):
+        """A number that is often about as great as the product of a and b."""
+        bias = (1 << EXPONENT[form] - 1) - 1
+        mask = (1 << EXPONENT[form]) - 1
+        field = (a >> FRACTION[form] & mask) + (b >> FRACTION[form] & mask) - bias
+        return self.put(form, self.exponent(form, field))
+
+    def tiny_pair(self, form):
+        """Two numbers whose product is about the least normal number or below it."""
+        a = self.put(form, self.draw.randrange(1, (1 << EXPONENT[form] - 1)))
+        field = a >> FRACTION[form] & (1 << EXPONENT[form]) - 1
+        bias = (1 << EXPONENT[form] - 1) - 1
+        other = bias + 1 - field + self.draw.randint(-FRACTION[form] // 2, 1)
+        return (a, self.put(form, min(max(other, 0), 2 * bias)))
+
+
+# Instructions' words.
+
+STOP_WORD = 0x00000073
+
+
+def word_r(opcode, rd, f3, rs1, rs2, f7):
+    return f7 << 25 | rs2 << 20 | rs1 << 15 | f3 << 12 | rd << 7 | opcode
+
+
+def word_i(opcode, rd, f3, rs1, offset):
+    return offset % 2**12 << 20 | rs1 << 15 | f3 << 12 | rd << 7 | opcode
+
+
+def word_s(opcode, f3, rs1, rs2, offset):
+    bits = offset % 2**12
+    return word_r(opcode, bits % 32, f3, rs1, rs2, bits // 32)
+
+
+def word_u(rd, upper):
+    return upper << 12 | rd << 7 | 0x37
+
+
+def word_b(f3, rs1, rs2, offset):
+    """A branch; offset is even, from -4096 to 4094."""
+    bits = format(offset % 2**13, "013b")
+    return int(bits[0] + bits[2:8] + format(rs2 << 8 | rs1 << 3 | f3, "013b") + bits[8:12] + bits[1] + "1100011", 2)
+
+
+def word_j(rd, offset):
+    """A jump; offset is even, from -2^20 to 2^20 - 2."""
+    bits = format(offset % 2**21, "021b")
+    return int(bits[0] + bits[10:20] + bits[9] + bits[1:9] + format(rd, "05b") + "1101111", 2)
+
+
+def word_fused(operation, fm, rd, f3, rs1, rs2, rs3):
+    return word_r(0x43 + 4 * (operation - 5), rd, f3, rs1, rs2, rs3 << 2 | fm)
+
+
+def word_float(f5, fm, rd, f3, rs1, rs2):
+    return word_r(0x53, rd, f3, rs1, rs2, f5 << 2 | fm)
+
+
+def add_one(rd):
+    return word_i(0x13, rd, 0, rd, 1)
+
+
+# The machine. A state is the list of what the places hold, 0 to 68 as get tells them, and behind
+# them the bytes of the memory.
+
+FRM, FFLAGS, PC, CAUSE, VALUE, BYTES = 64, 65, 66, 67, 68, 69
+NO_CAUSE = 2**64 - 1
+BY_NUMBER, AT_END, BY_STOP_WORD, BY_FAULT = 0, 1, 2, 3
+BOX = (2**64 - 2**32, 0, 2**64 - 2**16)
+
+
+def f(number):
+    """The place of an f register."""
+    return 32 + number
+
+
+def line(calls):
+    """The answers of these calls on one machine."""
+    numbers = [number for call in calls for number in call]
+    assert len(calls) <= 400 and len(numbers) <= 16000, (len(calls), len(numbers))
+    told = split(answers(numbers))
+    assert len(told) == len(calls), (len(told), len(calls))
+    return told
+
+
+def program_call(words):
+    return [7, len(words)] + list(words)
+
+
+def write_call(at, row):
+    return [12, at, len(row)] + list(row)
+
+
+def set_calls(held):
+    return [[10, place, v] for place, v in held.items()]
+
+
+LOOK = [[9, place] for place in range(BYTES)] + [[11, 0, 4096]]
+
+
+def state_of(told):
+    """The state that the answers to LOOK tell."""
+    assert all(answer[0] == 0 and len(answer) == 2 for answer in told[:-1]), told
+    assert told[-1][:2] == [0, 4096] and len(told[-1]) == 4098
+    return [answer[1] for answer in told[:-1]] + told[-1][2:]
+
+
+def states(parts):
+    """The state behind each part of one line of calls, and all answers to the parts' calls."""
+    told = line([call for part in parts for call in part + LOOK])
+    found, heard, at = [], [], 0
+    for part in parts:
+        heard.append(told[at:at + len(part)])
+        at += len(part) + len(LOOK)
+        found.append(state_of(told[at - len(LOOK):at]))
+    return found, heard
+
+
+# Contents that are all different, so that what goes to a wrong place is seen; f1 to f9 are not
+# boxed, f10 to f19 are boxed singles, f20 to f31 boxed halves.
+FILLED = {}
+for number in range(1, 32):
+    FILLED[number] = 0x0123456789ABCDEF * number % 2**64
+for number in range(32):
+    FILLED[f(number)] = 0x4010203040506070 + number
+for number in range(10, 20):
+    FILLED[f(number)] = 0xFFFFFFFF40102030 + number
+for number in range(20, 32):
+    FILLED[f(number)] = 0xFFFFFFFFFFFF4010 + number
+
+
+def with_changes(state, changes):
+    """The state with some places changed; x0 never is."""
+    changed = list(state)
+    for place, v in changes.items():
+        if place != 0:
+            changed[place] = v
+    return changed
+
+
+class MachineTest(unittest.TestCase):
+    def same_state(self, state, expected):
+        if state != expected:
+            self.fail({place: (state[place], expected[place]) for place in range(len(expected))
+                       if state[place] != expected[place]})
+
+    def executed(self, words, held, steps, memory=()):
+        """The states ahead of a run and behind it, and what the run answers."""
+        ready = [program_call(words)] + set_calls({**FILLED, **held}) + list(memory)
+        (before, after), heard = states([ready, [[8, steps]]])
+        self.assertEqual(heard[0], [[0, 0]] * len(ready))
+        return before, after, heard[1][0]
+
+    def does(self, word, held, changes, at=0, memory=()):
+        """The word is executed, as the word of number at, and changes this alone.
+
+        pc goes on by 4 where changes tells no other.
+        """
+        before, after, told = self.executed([0] * at + [word], {PC: 4 * at, **held}, 1, memory)
+        self.assertEqual(told, [0, BY_NUMBER, 1], hex(word))
+        self.same_state(after, with_changes(before, {PC: 4 * at + 4, **changes}))
+
+    def faults(self, word, held, cause, value, at=0, memory=()):
+        """The word is a fault, which changes cause and value alone."""
+        before, after, told = self.executed([0] * at + [word], {PC: 4 * at, **held}, 1, memory)
+        self.assertEqual(told, [0, BY_FAULT, 0], hex(word))
+        self.same_state(after, with_changes(before, {CAUSE: cause, VALUE: value}))
+
+    def is_not_legal(self, word, held):
+        self.faults(word, held, 2, word)

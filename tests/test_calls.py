@@ -20,6 +20,12 @@ SHOWN = (
     ([4, 1, 6, 1, ONE], [3, 0, 1, 0]),
     ([5, 1, 7, 1, 2], [3, 0, TWO, 0]),
     ([6], [2, 0, 0]),
+    ([7, 2, 0x00100093, 0x00000073], [2, 0, 0]),
+    ([8, 0], [3, 0, 0, 0]),
+    ([9, 1], [2, 0, 0]),
+    ([10, 1, 0], [2, 0, 0]),
+    ([11, 4094, 2], [4, 0, 2, 0, 0]),
+    ([12, 0, 3, 9, 8, 7], [2, 0, 0]),
 )
 
 
@@ -49,7 +55,7 @@ class Shape(unittest.TestCase):
     def test_400_calls(self):
         calls, expected = [], []
         for count in range(400):
-            call, told = SHOWN[count * 5 % 7]
+            call, told = SHOWN[count * 5 % len(SHOWN)]
             calls += call
             expected += told
         self.assertEqual(processor.answers(calls), expected)
@@ -156,12 +162,3 @@ class Apart(unittest.TestCase):
 
     def test_new_stands_anywhere(self):
         self.assertEqual(processor.answers([6, 6, 2, 0, 0, 6]), [2, 0, 0, 2, 0, 0, 2, 0, 16, 2, 0, 0])
-
-
-class LaterCalls(unittest.TestCase):
-    """The machine's calls are not built yet: they are refused, and the calls behind them answered."""
-
-    def test_they_are_gone_past(self):
-        later = ([7, 0], [7, 3, 1, 2, 3], [8, 5], [9, 64], [10, 64, 1], [11, 0, 4], [12, 0, 0], [12, 8, 2, 255, 1])
-        for call in later:
-            self.assertEqual(processor.answers(call + [2, 0, 0]), [1, -1, 2, 0, 16])

@@ -1,78 +1,14 @@
 """All answers of numbers, held against exact arithmetic of the tests' own."""
 
-import random
 import unittest
 from itertools import product
 
-from tests.helper import EXPONENT, FORMS, FRACTION, HALF, MODES, NAMED, WIDTH
-from tests.helper import differences, exact_op, sort_range
+from tests.helper import EXPONENT, FORMS, FRACTION, HALF, MODES, NAMED
+from tests.helper import Drawn, differences, exact_op, sort_range
 
 ONE_OPERAND = (4, 14, 15)
 TWO_OPERANDS = (0, 1, 2, 3, 9, 10, 11, 12, 13)
 FUSED = (5, 6, 7, 8)
-
-
-class Drawn:
-    """Operands, drawn anew but the same in each run of the tests."""
-
-    def __init__(self, seed):
-        self.draw = random.Random(seed)
-
-    def above(self, form):
-        """Now and then, bits above the format's width."""
-        room = 64 - WIDTH[form]
-        return self.draw.getrandbits(room) << WIDTH[form] if room and self.draw.random() < 0.3 else 0
-
-    def fraction(self, form):
-        """Fractions with long runs of equal bits come often: ties and carries come of them."""
-        places = FRACTION[form]
-        bits = self.draw.getrandbits(places)
-        choice = self.draw.randrange(4)
-        if choice == 0:
-            bits = bits >> self.draw.randrange(places + 1) << self.draw.randrange(places + 1)
-        if choice == 1:
-            bits = (1 << places) - 1 - (bits >> self.draw.randrange(places + 1))
-        return bits % (1 << places)
-
-    def exponent(self, form, near=None):
-        greatest = (1 << EXPONENT[form]) - 1
-        if near is not None and self.draw.random() < 0.7:
-            return min(greatest, max(0, near + self.draw.randint(-FRACTION[form] - 3, FRACTION[form] + 3)))
-        choice = self.draw.randrange(5)
-        if choice == 0:
-            return self.draw.randrange(4)
-        if choice == 1:
-            return greatest - self.draw.randrange(4)
-        return self.draw.randrange(greatest + 1)
-
-    def put(self, form, field):
-        sign = self.draw.getrandbits(1)
-        bits = (sign << EXPONENT[form] | field) << FRACTION[form] | self.fraction(form)
-        return bits | self.above(form)
-
-    def operand(self, form):
-        if self.draw.random() < 0.1:
-            return self.draw.choice(NAMED[form].specials()) | self.above(form)
-        return self.put(form, self.exponent(form))
-
-    def near(self, form, a):
-        field = a >> FRACTION[form] & (1 << EXPONENT[form]) - 1
-        return self.put(form, self.exponent(form, field))
-
-    def third(self, form, a, b):
-        """A number that is often about as great as the product of a and b."""
-        bias = (1 << EXPONENT[form] - 1) - 1
-        mask = (1 << EXPONENT[form]) - 1
-        field = (a >> FRACTION[form] & mask) + (b >> FRACTION[form] & mask) - bias
-        return self.put(form, self.exponent(form, field))
-
-    def tiny_pair(self, form):
-        """Two numbers whose product is about the least normal number or below it."""
-        a = self.put(form, self.draw.randrange(1, (1 << EXPONENT[form] - 1)))
-        field = a >> FRACTION[form] & (1 << EXPONENT[form]) - 1
-        bias = (1 << EXPONENT[form] - 1) - 1
-        other = bias + 1 - field + self.draw.randint(-FRACTION[form] // 2, 1)
-        return (a, self.put(form, min(max(other, 0), 2 * bias)))
 
 
 class Exactly(unittest.TestCase):

@@ -28,6 +28,12 @@ NEVER_NAMES = set("""register mro elements open input version_info with_tracebac
 NEVER_WORDS = set("""type typing typing_extensions enum Enum IntEnum StrEnum Flag IntFlag Generic Protocol ABC ABCMeta
     namedtuple NamedTuple TypedDict TYPE_CHECKING abstractmethod""".split())
 
+NEVER_VALUES = set("""items keys values pop update append clear extend insert remove reverse setdefault sort args
+    encode format""".split())
+
+WALKED = ("zip", "enumerate", "reversed", "range")
+WALKERS = ("list", "tuple", "dict", "sorted", "sum", "any", "all", "enumerate", "zip")
+
 STATEMENTS = (ast.Assign, ast.AugAssign, ast.If, ast.While, ast.For, ast.Return, ast.Break, ast.Continue, ast.Pass,
               ast.Raise, ast.Try, ast.Expr, ast.FunctionDef, ast.ClassDef, ast.ImportFrom)
 
@@ -150,6 +156,7 @@ class Language(unittest.TestCase):
                 own = {argument.arg for argument in function.args.args}
                 own |= {node.id for node in ast.walk(function)
                         if isinstance(node, ast.Name) and isinstance(node.ctx, ast.Store)}
+                own |= {node.name for node in ast.walk(function) if isinstance(node, ast.ExceptHandler) and node.name}
                 self.assertFalse(own & (imported | tops | set(dir(builtins)) | NEVER_NAMES), (path.name, function.name))
                 for name in own:
                     self.assertRegex(name, r"^[A-Za-z][A-Za-z0-9_]*$")
@@ -165,3 +172,72 @@ class Language(unittest.TestCase):
                 self.assertIn(node.func.attr, METHODS | own, where)
             if isinstance(node, ast.Attribute):
                 self.assertNotIn(node.attr, NEVER_NAMES | {"format", "format_map", "args", "encode", "sort"}, where)
+
+    def test_classes(self):
+        methods, values = set(), set()
+        for path, tree in self.trees.items():
+            for node in [node for node in ast.walk(tree) if isinstance(node, ast.ClassDef)]:
+                self.assertIn(node, tree.body, path.name)
+                self.assertLessEqual(len(node.bases), 1, path.name)
+                self.assertFalse(node.decorator_list or node.keywords, path.name)
+                self.assertIsInstance(node.body[0], ast.Expr, path.name)
+                own = [part.name for part in node.body[1:] if isinstance(part, ast.FunctionDef)]
+                self.assertEqual(len(own), len(node.body) - 1, path.name)
+                self.assertEqual(len(own), len(set(own)), path.name)
+                methods |= set(own)
+        for where, node in self.nodes():
+            if isinstance(node, ast.Attribute) and isinstance(node.ctx, ast.Store):
+                self.assertIsInstance(node.value, ast.Name, where)
+                self.assertNotIn(node.attr, NEVER_VALUES, where)
+                values.add(node.attr)
+            if isinstance(node, ast.Attribute) and node.attr.startswith("__"):
+                self.assertEqual(node.attr, "__init__", where)
+        self.assertFalse(methods & values)
+        for name in methods - {"__init__"} | values:
+            self.assertRegex(name, r"^[A-Za-z][A-Za-z0-9_]*$")
+            self.assertIsNone(re.match(r"(f|tb|co|gi|cr|ag)_", name), name)
+
+    def test_errors(self):
+        own = [node.name for tree in self.trees.values() for node in tree.body if isinstance(node, ast.ClassDef)]
+        for where, node in self.nodes():
+            if isinstance(node, ast.Raise):
+                self.assertIsInstance(node.exc, ast.Call, where)
+                self.assertIn(node.exc.func.id, own, where)
+            if isinstance(node, ast.ExceptHandler):
+                self.assertIn(node.type.id, own, where)
+
+    def test_no_annotations(self):
+        for where, node in self.nodes():
+            if isinstance(node, ast.FunctionDef):
+                self.assertFalse(node.returns or any(part.annotation for part in node.args.args), where)
+                self.assertFalse(node.args.defaults, where)
+            self.assertNotIsInstance(node, ast.AnnAssign, where)
+
+    def test_what_is_walked_at_once(self):
+        for path, tree in self.trees.items():
+            walked = set()
+            for node in ast.walk(tree):
+                if isinstance(node, (ast.For, ast.comprehension)):
+                    walked.add(node.iter)
+                if isinstance(node, ast.Call) and isinstance(node.func, ast.Name) and node.func.id in WALKERS:
+                    walked |= set(node.args)
+            for node in ast.walk(tree):
+                if isinstance(node, ast.Call) and isinstance(node.func, ast.Name) and node.func.id in WALKED:
+                    self.assertIn(node, walked, (path.name, node.lineno))
+
+    def test_tables_of_a_files_top_are_only_read(self):
+        tables = {target.id for tree in self.trees.values() for node in tree.body if isinstance(node, ast.Assign)
+                  for target in node.targets if isinstance(node.value, (ast.Tuple, ast.List, ast.Dict))}
+        for path, tree in self.trees.items():
+            allowed = set()
+            for node in ast.walk(tree):
+                if isinstance(node, ast.Subscript):
+                    self.assertFalse(isinstance(node.ctx, ast.Store) and getattr(node.value, "id", "") in tables)
+                    allowed.add(node.value)
+                if isinstance(node, ast.Compare):
+                    allowed |= set(node.comparators)
+                if isinstance(node, (ast.For, ast.comprehension)):
+                    allowed.add(node.iter)
+            for node in ast.walk(tree):
+                if isinstance(node, ast.Name) and node.id in tables and isinstance(node.ctx, ast.Load):
+                    self.assertIn(node, allowed, (path.name, node.lineno))
